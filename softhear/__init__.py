@@ -1,0 +1,1 @@
+"""A hearing aid in sixteen bits."""

@@ -1,0 +1,105 @@
+"""The interface: how calls and answers are written, and what is left as it was."""
+
+import unittest
+
+from softhear.aids import answers, rows_from
+
+from helper import (HALF, PASS, begin, block, couple, echo, flat, gains, joined, limit, sound, sound_of, taps, times,
+                    tone, trim, turn)
+
+
+def refuse(*numbers, **names):
+    raise AssertionError("what is handed in was changed")
+
+
+class Fixed(list):
+    """A list that tells when it is changed, if only for a while."""
+
+    append = extend = insert = remove = pop = clear = sort = reverse = refuse
+    __setitem__ = __delitem__ = __iadd__ = __imul__ = refuse
+
+
+ALL_CALLS = [begin(), taps(0, PASS), taps(3, HALF), times(30000, 3000), couple(1, 9), gains(1, 2, [3] * 16),
+             flat(0, 0, 4), trim(0, [1, 2, 3]), trim(1, []), turn(0, 2, 4000), echo(0, 18, 90), limit(0, 20000),
+             tone(1, 99, 400), sound(block([1000] * 16), block([-9] * 16, [7] * 16)), sound_of(65, []), flat(2, 0, 4),
+             taps(0, [32767] * 16), begin(), sound(block([5]))]
+
+
+class Written(unittest.TestCase):
+    def test_the_empty_list(self):
+        self.assertEqual(answers([]), [])
+
+    def test_begin_alone(self):
+        self.assertEqual(answers([0]), [1, 0])
+
+    def test_how_many_numbers_and_these(self):
+        calls = [0, 1, 0, 16] + PASS + [11, 1, 64] + [100, 0, 7, 0] + [0] * 60
+        self.assertEqual(answers(calls), [1, 0, 1, 0, 33, 0, 100, 7] + [0] * 30)
+
+    def test_each_call_by_its_number(self):
+        calls = ([0] + [1, 7, 16] + [0] * 16 + [2, 5, 6] + [3, 0, 0] + [4, 1, 7, 16] + [1] * 16 + [5, 0, 0, 63] +
+                 [6, 0, 2, 5, -5] + [6, 1, 0] + [7, 0, 7, 0] + [8, 1, 255, 255] + [9, 1, 0] + [10, 0, 65535, 0] +
+                 [11, 2, 128] + [0] * 128)
+        self.assertEqual(answers(calls), [1, 0] * 12 + [65] + [0] * 65)
+
+    def test_a_refusal_is_its_number_alone(self):
+        calls = [0] + [1, 8, 16] + [0] * 16 + [1, 0, 16] + [32767] * 16 + [11, 0, 0] + [11, 65, 0] + [2, -1, 0]
+        self.assertEqual(answers(calls), [1, 0, 1, -2, 1, -3, 1, -2, 1, -2, 1, -2])
+
+    def test_the_next_call_is_found_behind_rows_of_any_length(self):
+        calls = [0, 6, 0, 0, 6, 0, 1, 8, 6, 1, 8, 1, 2, 3, 4, 5, 6, 7, 8, 6, 2, 3, 1, 1, 1, 9, 0, 0]
+        self.assertEqual(answers(calls), [1, 0, 1, 0, 1, 0, 1, 0, 1, -2, 1, 0])
+
+    def test_rows_one_behind_another(self):
+        self.assertEqual(rows_from([19, 2, 7, 8, 0, 1, 9, 5], 1, 3), [[7, 8], [], [9]])
+        self.assertEqual(rows_from([16, 3], 1, 0), [])
+
+    def test_what_is_answered_is_a_list_of_whole_numbers(self):
+        told = answers(joined(ALL_CALLS))
+        self.assertIs(type(told), list)
+        self.assertEqual({type(number) for number in told}, {int})
+
+
+class LeftAsItWas(unittest.TestCase):
+    def test_the_list_is_not_changed(self):
+        calls = joined(ALL_CALLS)
+        kept = list(calls)
+        answers(calls)
+        self.assertEqual(calls, kept)
+
+    def test_not_for_a_while_either(self):
+        calls = joined(ALL_CALLS)
+        self.assertEqual(answers(Fixed(calls)), answers(calls))
+        self.assertEqual(answers(Fixed()), [])
+
+    def test_nothing_is_kept_from_one_time_to_the_next(self):
+        calls = joined(ALL_CALLS)
+        quiet = joined([begin(), sound(block([1000] * 16))])
+        expected = answers(calls)
+        self.assertEqual(answers(calls), expected)
+        self.assertEqual(answers(quiet), [1, 0, 33] + [0] * 33)
+        self.assertEqual(answers(calls), expected)
+
+    def test_what_is_answered_is_the_callers_own(self):
+        calls = joined(ALL_CALLS)
+        told = answers(calls)
+        kept = list(told)
+        told.clear()
+        self.assertEqual(answers(calls), kept)
+
+
+class Long(unittest.TestCase):
+    def test_three_hundred_calls(self):
+        calls = joined([begin()] + [limit(k % 2, k) for k in range(299)])
+        self.assertEqual(answers(calls), [1, 0] * 300)
+
+    def test_nearly_thirty_thousand_numbers(self):
+        rows = [block([k + 1] * 16, (), [-k] * 16) for k in range(64)]
+        calls = joined([begin(), taps(0, PASS)] + [sound(*rows)] * 7)
+        self.assertLessEqual(len(calls), 30000)
+        one = [2049, 0] + joined([[k + 1, -k] * 16 for k in range(64)])
+        self.assertEqual(answers(calls), [1, 0, 1, 0] + one * 7)
+
+
+if __name__ == "__main__":
+    unittest.main()
