@@ -4,7 +4,8 @@ from softhear.calls import answer
 from softhear.pair import Pair
 
 # By a call's number: how many whole numbers it has, and how many rows behind them.
-SHAPES = ((0, 0), (1, 1), (2, 0), (2, 0), (2, 1), (3, 0), (1, 1), (3, 0), (3, 0), (2, 0), (3, 0), (1, 1))
+SHAPES = ((0, 0), (1, 1), (2, 0), (2, 0), (2, 1), (3, 0), (1, 1), (3, 0), (3, 0), (2, 0), (3, 0), (1, 1),
+          (2, 1), (2, 0), (2, 0), (1, 0), (0, 0), (0, 1), (0, 1), (0, 2), (0, 1), (0, 2), (0, 2), (1, 1))
 
 
 def answers(calls):

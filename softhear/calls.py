@@ -1,30 +1,19 @@
 """The calls on a pair: each takes the pair, the call's whole numbers and its rows, and answers a list."""
 
-from softhear.hearing import heard_block
-from softhear.pair import BANDS, LEAST_GAIN, LOUDNESSES, MOST_GAIN
-from softhear.sixteen import clamped, within
+from softhear.asked import block_bytes, loudest_of, masked
+from softhear.bounds import (LEAST_GAIN, LEAST_WAY, MOST_DELAY, MOST_GAIN, MOST_LESSEN, MOST_RATE, MOST_STEP, MOST_WAY,
+                             is_amount, is_band, is_ear, is_gain, taps_fit)
+from softhear.hearing import heard_block, louder_row, scene, split_by_halves, woven
+from softhear.kept import all_bytes, can_be_set, numbers_from, set_numbers, sum_is_right
+from softhear.pair import BANDS, BLOCKS_KEPT, LOUDNESSES
+from softhear.sixteen import clamped, portion, share, within
 
 DONE = 0
 OUT_OF_RANGE = -2
 NOT_TAKEN = -3
+NOT_KEPT = -4
 
 BLOCK = 64
-
-
-def is_ear(x):
-    return within(x, 0, 1)
-
-
-def is_band(x):
-    return within(x, 0, BANDS - 1)
-
-
-def is_gain(x):
-    return within(x, LEAST_GAIN, MOST_GAIN)
-
-
-def is_amount(x):
-    return within(x, 0, 32767)
 
 
 def begin(pair, whole, rows):
@@ -36,7 +25,7 @@ def taps(pair, whole, rows):
     band = whole[0]
     if not is_band(band):
         return [OUT_OF_RANGE]
-    if sum([abs(x) for x in rows[0]]) > 65535:
+    if not taps_fit(rows[0]):
         return [NOT_TAKEN]
     pair.taps[band] = rows[0]
     return [DONE]
@@ -51,7 +40,7 @@ def times(pair, whole, rows):
 
 
 def couple(pair, whole, rows):
-    if not (within(whole[0], 0, 1) and within(whole[1], 0, 64)):
+    if not (within(whole[0], 0, 1) and within(whole[1], 0, MOST_LESSEN)):
         return [OUT_OF_RANGE]
     pair.coupled = whole[0]
     pair.lessen = whole[1]
@@ -86,7 +75,7 @@ def trim(pair, whole, rows):
 
 
 def turn(pair, whole, rows):
-    if not (is_ear(whole[0]) and within(whole[1], 0, 7) and is_amount(whole[2])):
+    if not (is_ear(whole[0]) and within(whole[1], 0, MOST_DELAY) and is_amount(whole[2])):
         return [OUT_OF_RANGE]
     ear = pair.ears[whole[0]]
     ear.delay = whole[1]
@@ -95,7 +84,7 @@ def turn(pair, whole, rows):
 
 
 def echo(pair, whole, rows):
-    if not (is_ear(whole[0]) and within(whole[1], 16, 255) and within(whole[2], 0, 255)):
+    if not (is_ear(whole[0]) and within(whole[1], LEAST_WAY, MOST_WAY) and within(whole[2], 0, MOST_RATE)):
         return [OUT_OF_RANGE]
     ear = pair.ears[whole[0]]
     ear.way = whole[1]
@@ -112,7 +101,7 @@ def limit(pair, whole, rows):
 
 
 def tone(pair, whole, rows):
-    if not (is_ear(whole[0]) and within(whole[1], 0, 65535) and is_amount(whole[2])):
+    if not (is_ear(whole[0]) and within(whole[1], 0, MOST_STEP) and is_amount(whole[2])):
         return [OUT_OF_RANGE]
     ear = pair.ears[whole[0]]
     ear.step = whole[1]
@@ -129,8 +118,77 @@ def sound(pair, whole, rows):
     return told
 
 
+def past(pair, whole, rows):
+    if not (is_ear(whole[0]) and within(whole[1], 0, BLOCKS_KEPT - 1)):
+        return [OUT_OF_RANGE]
+    return [DONE] + masked(block_bytes(pair.ears[whole[0]], whole[1]), rows[0])
+
+
+def loudest(pair, whole, rows):
+    if not (is_ear(whole[0]) and within(whole[1], 1, BLOCKS_KEPT)):
+        return [OUT_OF_RANGE]
+    return loudest_of(pair.ears[whole[0]], whole[1])
+
+
+def levels(pair, whole, rows):
+    if not (is_ear(whole[0]) and within(whole[1], 0, BANDS)):
+        return [OUT_OF_RANGE]
+    ear = pair.ears[whole[0]]
+    return [DONE] + ear.levels[:whole[1]]
+
+
+def state(pair, whole, rows):
+    if not is_ear(whole[0]):
+        return [OUT_OF_RANGE]
+    ear = pair.ears[whole[0]]
+    return [DONE] + ear.weights + ear.busy + [scene(ear.busy), ear.phase]
+
+
+def save(pair, whole, rows):
+    return [DONE] + all_bytes(pair)
+
+
+def load(pair, whole, rows):
+    numbers = numbers_from(rows[0])
+    if not (sum_is_right(rows[0]) and can_be_set(numbers)):
+        return [NOT_KEPT]
+    set_numbers(pair, numbers)
+    return [DONE]
+
+
+def apart(pair, whole, rows):
+    block = rows[0]
+    return [DONE] + block[0::4] + block[1::4] + block[2::4] + block[3::4]
+
+
+def weave(pair, whole, rows):
+    return [DONE] + woven(rows[0], rows[1])
+
+
+def split(pair, whole, rows):
+    told = [DONE]
+    for row in split_by_halves(rows[0]):
+        told.extend(row)
+    return told
+
+
+def shares(pair, whole, rows):
+    return [DONE] + [share(x, y) for x, y in zip(rows[0], rows[1])]
+
+
+def portions(pair, whole, rows):
+    return [DONE] + [portion(x, y) for x, y in zip(rows[0], rows[1])]
+
+
+def amplify(pair, whole, rows):
+    if not is_gain(whole[0]):
+        return [OUT_OF_RANGE]
+    return [DONE] + louder_row(rows[0], whole[0])
+
+
 # By a call's number: what answers it.
-HANDLERS = (begin, taps, times, couple, gains, flat, trim, turn, echo, limit, tone, sound)
+HANDLERS = (begin, taps, times, couple, gains, flat, trim, turn, echo, limit, tone, sound,
+            past, loudest, levels, state, save, load, apart, weave, split, shares, portions, amplify)
 
 
 def answer(pair, number, whole, rows):

@@ -1,6 +1,7 @@
 """A block of sixteen moments, on its way from the microphones to the ears."""
 
-from softhear.pair import BACKS_KEPT, LEAST_GAIN, MOMENTS, PUT_KEPT, TAPS, TURNED_KEPT, WEIGHTS
+from softhear.bounds import LEAST_GAIN
+from softhear.pair import BACKS_KEPT, MOMENTS, PUT_KEPT, TAPS, TURNED_KEPT, WEIGHTS
 from softhear.sixteen import added, clamped, held, lessened, product, share, sign, size, wrapped
 
 # By how many eighths of a doubling: what to multiply by, where 16384 changes nothing.

@@ -4,12 +4,11 @@ MOMENTS = 16
 BANDS = 8
 TAPS = 16
 LOUDNESSES = 16
-LEAST_GAIN = -64
-MOST_GAIN = 63
 WEIGHTS = 8
 BACKS_KEPT = 7
 TURNED_KEPT = 15
 PUT_KEPT = 4096
+BLOCKS_KEPT = 256
 
 
 # One ear. The rows of what was heard have the oldest number first.

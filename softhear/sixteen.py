@@ -1,4 +1,4 @@
-"""Whole numbers of sixteen bits: held, wrapped, multiplied."""
+"""Whole numbers of sixteen bits: held, wrapped, multiplied, and as bytes."""
 
 
 def within(x, least, most):
@@ -20,6 +20,10 @@ def wrapped(x):
 
 def share(a, b):
     return wrapped(a * b // 32768)
+
+
+def portion(a, b):
+    return wrapped(a * b // 4096)
 
 
 def size(x):
@@ -47,3 +51,8 @@ def added(a, b):
 def lessened(a, b):
     """Two rows' differences, number by number, held each."""
     return [held(x - y) for x, y in zip(a, b)]
+
+
+def bytes_of(x, how_many):
+    """The lowest byte first; of a number below 0 as it is modulo 256, or 2^16."""
+    return [(x >> (8 * k)) & 255 for k in range(how_many)]

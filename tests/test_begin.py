@@ -4,8 +4,8 @@ import unittest
 
 from softhear.pair import Pair
 
-from helper import (HALF, PASS, QUIET, ask, at, begin, block, both, couple, echo, flat, gains, left, limit, right, row_of,
-                    sound, taps, times, tone, trim, turn)
+from helper import (HALF, PASS, QUIET, ask, at, begin, block, both, couple, echo, everything, flat, gains, left, limit,
+                    right, row_of, sound, taps, times, tone, trim, turn)
 
 LOUD = block([9000, -9000] * 8, [700] * 16, [-5000, 8000] * 8, [-900] * 16)
 # All that can be set, set to something else, and sounds that leave something behind in all that's heard.
@@ -93,6 +93,10 @@ class Begin(unittest.TestCase):
     def test_again_rate_is_0_and_way_is_16(self):
         start = [begin(), *SET, begin(), taps(0, PASS)]
         self.assertEqual(left(*start, sound(block([16384]), block([16384]), QUIET)), at({0: 16384, 16: 16384}, 48))
+
+    def test_again_all_that_can_be_asked_for_is_as_behind_the_first(self):
+        asked = everything()
+        self.assertEqual(ask(begin(), *SET, begin(), *asked)[-len(asked):], ask(begin(), *asked)[1:])
 
     def test_as_if_for_the_first_time(self):
         self.assertEqual(ask(begin(), *SET, begin(), *SET)[-len(SET):], ask(begin(), *SET)[-len(SET):])

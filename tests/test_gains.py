@@ -2,7 +2,8 @@
 
 import unittest
 
-from helper import LEAST, MOST, PASS, at, begin, block, both, couple, flat, gains, left, right, row_of, sound, taps, trim
+from helper import (LEAST, MOST, PASS, at, begin, block, both, couple, flat, gains, left, right, row_of, sound, taps,
+                    trim)
 
 START = [begin(), taps(0, PASS)]
 

@@ -2,8 +2,9 @@
 
 import unittest
 
-from helper import (HALF, LEAST, MOST, PASS, ask, at, begin, block, couple, echo, flat, gains, joined, limit, row_of,
-                    sound, sound_of, taps, times, tone, trim, turn)
+from helper import (ALL, BLOCKS, HALF, LEAST, MOST, PASS, SETTING, amplify, ask, at, begin, block, couple, echo,
+                    everything, flat, gains, joined, levels, limit, loudest, past, row_of, sound, sound_of, state, taps,
+                    times, tone, trim, turn)
 
 OUTSIDE_EARS = (-1, 2, LEAST, MOST)
 OUTSIDE_BANDS = (-1, 8, LEAST, MOST)
@@ -16,6 +17,11 @@ RANGES = [
     (echo, [(0, 1), (16, 255), (0, 255)]),
     (limit, [(0, 1), (0, 32767)]),
     (tone, [(0, 1), (0, 65535), (0, 32767)]),
+    (loudest, [(0, 1), (1, 256)]),
+    (levels, [(0, 1), (0, 8)]),
+    (state, [(0, 1)]),
+    (lambda ear, back: past(ear, back, ALL), [(0, 1), (0, 255)]),
+    (lambda g: amplify(SIXTEEN, g), [(-64, 63)]),
 ]
 SIXTEEN = [1] * 16
 
@@ -53,6 +59,7 @@ def two_grounds():
     calls += [gains(ear, 0, [64] * 16) for ear in OUTSIDE_EARS]
     calls += [gains(0, band, [-65] * 16) for band in OUTSIDE_BANDS]
     calls += [gains(2, 8, [127] * 16), flat(2, 8, 64), echo(-1, 15, 256), turn(2, -1, -1), tone(2, -1, 32768)]
+    calls += [past(2, 256, ALL), past(-1, -1, [0] * 32), loudest(2, 0), loudest(-1, 257), levels(2, 9), levels(-1, -1)]
     return calls
 
 
@@ -74,11 +81,15 @@ class Taken(unittest.TestCase):
     def test_both_ends_of_each_range(self):
         for make, ranges in RANGES:
             middle = [(least + greatest) // 2 for least, greatest in ranges]
-            self.assertEqual(answered(make(*middle)), [0])
+            self.assertEqual(answered(make(*middle))[0], 0)
             for place, both_ends in enumerate(ranges):
                 for end in both_ends:
-                    self.assertEqual(answered(make(*middle[:place], end, *middle[place + 1:])), [0])
-            self.assertEqual(answered(make(*[least for least, greatest in ranges])), [0])
+                    self.assertEqual(answered(make(*middle[:place], end, *middle[place + 1:]))[0], 0)
+            self.assertEqual(answered(make(*[least for least, greatest in ranges]))[0], 0)
+            self.assertEqual(answered(make(*[greatest for least, greatest in ranges]))[0], 0)
+
+    def test_what_sets_answers_0_alone(self):
+        for make, ranges in RANGES[:7]:
             self.assertEqual(answered(make(*[greatest for least, greatest in ranges])), [0])
 
     def test_taps_of_each_band(self):
@@ -126,21 +137,11 @@ class Refused(unittest.TestCase):
 
 
 class NothingChanges(unittest.TestCase):
-    # All is set, for each ear otherwise, and all bands can be heard.
-    SETTING = [
-        begin(), *[taps(band, at({band: 5000, band + 1: 3000 - 700 * band})) for band in range(8)],
-        times(20000, 5000), couple(1, 10),
-        *[gains(0, band, [20 - k - band for k in range(16)]) for band in range(8)],
-        *[gains(1, band, [15 - k + band for k in range(16)]) for band in range(8)],
-        turn(0, 3, 9000), turn(1, 5, 14000), echo(0, 17, 200), echo(1, 20, 150), limit(0, 12000), limit(1, 15000),
-        tone(0, 700, 2000), tone(1, 1100, 3000)]
-    BLOCKS = [block(*[[((n * n * 37 + k * n * 11 + 101 * row) % 3001) - 1500 for n in range(16)] for row in range(4)])
-              for k in range(6)]
     QUIETER = [block([3, 1, 2], (), [1, 1, 4]) for k in range(3)]
 
     def heard_behind(self, calls):
         """What sounds put out, where these calls come ahead of the first one and again between."""
-        told = ask(*self.SETTING, *calls, sound(*self.BLOCKS), *calls, sound(*self.QUIETER), sound(*self.BLOCKS))
+        told = ask(begin(), *SETTING, *calls, sound(*BLOCKS), *calls, sound(*self.QUIETER), sound(*BLOCKS))
         return joined([each for each in told if len(each) > 1])
 
     def check_nothing_changes(self, calls):
@@ -161,13 +162,22 @@ class NothingChanges(unittest.TestCase):
     def test_gains(self):
         self.check_nothing_changes(refused_by_gains())
 
+    def test_all_that_can_be_asked_for_stays(self):
+        start = [begin(), *SETTING, sound(*BLOCKS)]
+        asked = everything()
+        expected = ask(*start, *asked)[-len(asked):]
+        calls = refused_by_range() + two_grounds() + refused_by_taps() + refused_by_gains()
+        for first in range(0, len(calls), 20):
+            several = calls[first:first + 20]
+            self.assertEqual(ask(*start, *several, *asked)[-len(asked):], expected, several)
+
     def test_calls_that_are_taken_do_change_what_is_heard(self):
         # Else the tests above would show nothing.
         expected = self.heard_behind([])
         calls = [begin(), times(20000, 0), times(0, 5000), couple(0, 10), couple(1, 11), turn(0, 4, 9000),
                  turn(0, 3, 9500), turn(1, 6, 14000), turn(1, 5, 14500), echo(0, 18, 200), echo(0, 17, 0),
                  echo(1, 21, 150), echo(1, 20, 0), limit(0, 100), limit(1, 100), tone(0, 701, 2000),
-                 tone(0, 700, 2001), tone(1, 1101, 3000), tone(1, 1100, 3001), sound(self.BLOCKS[0])]
+                 tone(0, 700, 2001), tone(1, 1101, 3000), tone(1, 1100, 3001), sound(BLOCKS[0])]
         calls += [taps(band, HALF) for band in range(8)]
         calls += [make(ear, band, value) for make, value in [(flat, 1), (gains, SIXTEEN)] for ear in (0, 1)
                   for band in range(8)]

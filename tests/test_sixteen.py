@@ -1,8 +1,8 @@
-"""The words that all steps rest on: held, modulo 2^16, share, size, product."""
+"""The words that all rests on: held, modulo 2^16, share, portion, size, product; and numbers as bytes."""
 
 import unittest
 
-from softhear.sixteen import added, held, lessened, product, share, sign, size, wrapped
+from softhear.sixteen import added, bytes_of, held, lessened, portion, product, share, sign, size, wrapped
 
 
 class Words(unittest.TestCase):
@@ -24,6 +24,23 @@ class Words(unittest.TestCase):
     def test_share_is_modulo_and_not_held(self):
         # 2^30 / 2^15 = 32768, one too many.
         self.assertEqual(share(-32768, -32768), -32768)
+
+    def test_portion_rounds_down(self):
+        for a, b, expected in [(3, 2048, 1), (-3, 2048, -2), (-1, 1, -1), (1, 4095, 0), (-1, 4095, -1), (7, 4096, 7),
+                               (-32768, 4096, -32768), (32767, 0, 0)]:
+            self.assertEqual(portion(a, b), expected)
+
+    def test_portion_is_modulo_and_not_held(self):
+        # 32768; 8 * 32767 = 4 * 65536 - 8.
+        self.assertEqual(portion(8192, 16384), -32768)
+        self.assertEqual(portion(-32768, 32767), 8)
+
+    def test_bytes_the_lowest_first(self):
+        for x, expected in [(0, [0, 0]), (255, [255, 0]), (256, [0, 1]), (-1, [255, 255]), (-32768, [0, 128]),
+                            (32767, [255, 127]), (65535, [255, 255]), (65536, [0, 0])]:
+            self.assertEqual(bytes_of(x, 2), expected)
+        for x, expected in [(0, [0]), (63, [63]), (-1, [255]), (-64, [192]), (255, [255])]:
+            self.assertEqual(bytes_of(x, 1), expected)
 
     def test_size_is_held(self):
         for x, expected in [(0, 0), (5, 5), (-5, 5), (32767, 32767), (-32767, 32767), (-32768, 32767)]:

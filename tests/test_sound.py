@@ -2,8 +2,8 @@
 
 import unittest
 
-from helper import (HALF, LEAST, MOST, PASS, QUIET, ask, at, begin, block, both, couple, echo, gains, joined, left, limit,
-                    row_of, sound, sound_of, taps, times, tone, turn)
+from helper import (HALF, LEAST, MOST, PASS, QUIET, ask, at, begin, block, both, couple, echo, gains, joined, left,
+                    levels, limit, row_of, sound, sound_of, state, taps, times, tone, turn)
 
 
 class Form(unittest.TestCase):
@@ -114,6 +114,26 @@ class WorkedExample(unittest.TestCase):
         # Without limit and tone the third block is what was put together.
         row = left(*self.START, sound(self.FIRST, self.SECOND), limit(0, 32767), tone(0, 0, 0), sound(self.THIRD))
         self.assertEqual(row, [53, 35, 10, 10, 10, 7, 8, 5, 0, -5, -10, -13, -12, -10, -7, -2])
+
+    def test_what_each_ear_has_heard_behind_each_block(self):
+        # Learned in block 3, by signs. Cleared: + to moment 7, then -. Put out in block 2: - to moment 5, + to 11,
+        # 0, then -; in block 1, from its end back: - - - 0, then +. The sums: -5 -9 -13 -13 -11 -7 -3 1.
+        weights = [[0] * 8, [-255, 255, 255, 255, 255, 0, 0, 0],
+                   [-1530, -2040, -3060, -3060, -2550, -1785, -765, 255]]
+        busy = [[98, 86, 36, 76], [151, 140, 93, 93], [149, 140, 94, 103]]
+        # The right ear's 3000 makes 187 each, its -200 adds 13 / 16 = 0, then -187 / 16 = -11.7 is -12.
+        right_busy = [[187] * 4, [187] * 4, [175] * 4]
+        asked = [state(0), levels(0, 3), state(1), levels(1, 3)]
+        calls = [*self.START, sound(self.FIRST), *asked, sound(self.SECOND), *asked, sound(self.THIRD), *asked]
+        told = ask(*calls)
+        # Sixteen steps of 4096 come round: the phase is 0.
+        start = len(self.START)
+        for k in range(3):
+            place = start + 5 * k + 1
+            self.assertEqual(told[place], [0] + weights[k] + busy[k] + [1, 0])
+            self.assertEqual(told[place + 1], [0] + [[250, 125, 0], [287, 144, 0], [170, 86, 0]][k])
+            self.assertEqual(told[place + 2], [0] + [0] * 8 + right_busy[k] + [1, 0])
+            self.assertEqual(told[place + 3], [0] + [[750, 375, 0], [425, 188, 0], [213, 119, 0]][k])
 
 
 if __name__ == "__main__":
